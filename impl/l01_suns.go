@@ -369,6 +369,14 @@ func numberBits(a float32) uint32 {
 	return math.Float32bits(a)
 }
 
+// sizeOf returns the size of a number.
+func sizeOf(a float32) float32 {
+	if a < 0 {
+		return 0 - a
+	}
+	return a
+}
+
 // wholeText returns the decimal text of a whole number.
 func wholeText(number int16) string { return strconv.FormatInt(int64(number), 10) }
 
