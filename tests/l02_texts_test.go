@@ -65,6 +65,17 @@ func TestTextsOfNoBlinds(t *testing.T) {
 	}
 }
 
+// eachAlmostText tries a text with each of its bytes left out, or with another one put in its place or before it.
+func eachAlmostText(whole string, try func(text string)) {
+	for i := range len(whole) {
+		try(whole[:i] + whole[i+1:])
+		for _, b := range []string{"0", "1", "5", "9", "-", "+", " ", "a", "F", "\x00"} {
+			try(whole[:i] + b + whole[i+1:])
+			try(whole[:i] + b + whole[i:])
+		}
+	}
+}
+
 // A text with a byte changed, left out or put in is either no blind's, or that of the blind that is read.
 func TestAlmostTextsOfBlinds(t *testing.T) {
 	others := 0
@@ -80,13 +91,7 @@ func TestAlmostTextsOfBlinds(t *testing.T) {
 		}
 	}
 	for _, whole := range []string{impl.BlindText(tenSlats()), "1 3d800000 42800000 -64 80000000"} {
-		for i := range len(whole) {
-			check(whole[:i] + whole[i+1:])
-			for _, b := range []string{"0", "1", "5", "9", "-", "+", " ", "a", "F", "\x00"} {
-				check(whole[:i] + b + whole[i+1:])
-				check(whole[:i] + b + whole[i:])
-			}
-		}
+		eachAlmostText(whole, check)
 	}
 	if others == 0 {
 		t.Error("no changed text was that of another blind")
