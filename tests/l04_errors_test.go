@@ -33,17 +33,17 @@ func goodAwningArgs() awningArgs {
 	}
 }
 
-// awningAnswer is what a call returns: a code, whether all else is a zero value, and all of it as a text.
-type awningAnswer struct {
+// callAnswer is what a call returns: a code, whether all else is a zero value, and all of it as a text.
+type callAnswer struct {
 	code   int64
 	isZero bool
 	other  string
 }
 
-// awningAnswerOf takes what a call returns, the code last.
-func awningAnswerOf(list []any) awningAnswer {
+// callAnswerOf takes what a call returns, the code last.
+func callAnswerOf(list []any) callAnswer {
 	last := len(list) - 1
-	answer := awningAnswer{isZero: true, code: list[last].(int64)}
+	answer := callAnswer{isZero: true, code: list[last].(int64)}
 	for _, result := range list[:last] {
 		value := reflect.ValueOf(result)
 		isEmpty := value.Kind() == reflect.Slice && value.Len() == 0
@@ -177,7 +177,7 @@ func worseOfAwnings(a, b int64) int64 {
 func TestP1ErrorsOfAwnings(t *testing.T) {
 	faults := slices.Concat(invalidAwnings(), outsideOfAwnings(), tooManyAwnings())
 	for _, call := range awningCalls() {
-		if answer := awningAnswerOf(call.run(goodAwningArgs())); answer.code != impl.OK || answer.isZero {
+		if answer := callAnswerOf(call.run(goodAwningArgs())); answer.code != impl.OK || answer.isZero {
 			t.Errorf("%s: %v", call.name, answer)
 		}
 		for i, one := range faults {
@@ -189,7 +189,7 @@ func TestP1ErrorsOfAwnings(t *testing.T) {
 				one.put(&args)
 				two.put(&args)
 				want := worseOfAwnings(codeOfAwningFault(call, one), codeOfAwningFault(call, two))
-				if answer := awningAnswerOf(call.run(args)); answer.code != want || !answer.isZero {
+				if answer := callAnswerOf(call.run(args)); answer.code != want || !answer.isZero {
 					t.Fatalf("%s with %s %d and %s %d: %v, want %d", call.name, one.argument, i, two.argument, j, answer, want)
 				}
 			}
@@ -204,7 +204,7 @@ func TestP1OtherArgumentsOfAwnings(t *testing.T) {
 			args := goodAwningArgs()
 			fault.put(&args)
 			want := codeOfAwningFault(call, fault)
-			if answer := awningAnswerOf(call.run(args)); answer.code != want {
+			if answer := callAnswerOf(call.run(args)); answer.code != want {
 				t.Errorf("%s with another %s: %v, want %d", call.name, fault.argument, answer, want)
 			}
 		}
@@ -230,7 +230,7 @@ func TestP1OutThatIsNotFound(t *testing.T) {
 	} {
 		args := never
 		c.put(&args)
-		answer := awningAnswerOf(both(impl.OutFor(args.awning, args.sun, args.hour, args.facing, args.part)))
+		answer := callAnswerOf(both(impl.OutFor(args.awning, args.sun, args.hour, args.facing, args.part)))
 		if answer.code != c.code || !answer.isZero {
 			t.Errorf("%s: %v, want %d", name, answer, c.code)
 		}
