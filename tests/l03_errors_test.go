@@ -78,10 +78,6 @@ type roomCall struct {
 	run  func(a roomArgs) roomAnswer
 }
 
-func both[A any](a A, code int64) []any { return []any{a, code} }
-
-func three[A, B any](a A, b B, code int64) []any { return []any{a, b, code} }
-
 func roomCalls() []roomCall {
 	return []roomCall{
 		{"TileOf", "room wanted", func(a roomArgs) roomAnswer { return roomAnswerOf(both(impl.TileOf(a.room, a.wanted))...) }},

@@ -1,11 +1,8 @@
 package tests
 
 import (
-	"fmt"
 	"math"
-	"reflect"
 	"slices"
-	"strings"
 	"testing"
 
 	"loop.example/g01367/impl"
@@ -33,34 +30,8 @@ func goodAwningArgs() awningArgs {
 	}
 }
 
-// callAnswer is what a call returns: a code, whether all else is a zero value, and all of it as a text.
-type callAnswer struct {
-	code   int64
-	isZero bool
-	other  string
-}
-
-// callAnswerOf takes what a call returns, the code last.
-func callAnswerOf(list []any) callAnswer {
-	last := len(list) - 1
-	answer := callAnswer{isZero: true, code: list[last].(int64)}
-	for _, result := range list[:last] {
-		value := reflect.ValueOf(result)
-		isEmpty := value.Kind() == reflect.Slice && value.Len() == 0
-		answer.isZero = answer.isZero && (isEmpty || value.IsZero())
-		answer.other += fmt.Sprint(result, " ")
-	}
-	return answer
-}
-
-type awningCall struct {
-	name string
-	uses string // the arguments that it has, each by a word
-	run  func(a awningArgs) []any
-}
-
-func awningCalls() []awningCall {
-	return []awningCall{
+func awningCalls() []callOf[awningArgs] {
+	return []callOf[awningArgs]{
 		{"ShadedPart", "awning sun hour facing", func(a awningArgs) []any {
 			return both(impl.ShadedPart(a.awning, a.sun, a.hour, a.facing))
 		}},
@@ -87,17 +58,10 @@ func awningCalls() []awningCall {
 	}
 }
 
-// awningFault is an argument that is wrong, and the code that it gives.
-type awningFault struct {
-	argument string
-	code     int64
-	put      func(a *awningArgs)
-}
-
-func invalidAwnings() []awningFault {
-	var list []awningFault
+func invalidAwnings() []faultOf[awningArgs] {
+	var list []faultOf[awningArgs]
 	add := func(argument string, put func(a *awningArgs)) {
-		list = append(list, awningFault{argument, impl.ErrInvalid, put})
+		list = append(list, faultOf[awningArgs]{argument, impl.ErrInvalid, put})
 	}
 	for i, bad := range badAwnings() {
 		add("awning", func(a *awningArgs) { a.awning = bad })
@@ -121,10 +85,10 @@ func invalidAwnings() []awningFault {
 	return list
 }
 
-func outsideOfAwnings() []awningFault {
-	var list []awningFault
+func outsideOfAwnings() []faultOf[awningArgs] {
+	var list []faultOf[awningArgs]
 	add := func(argument string, put func(a *awningArgs)) {
-		list = append(list, awningFault{argument, impl.ErrRange, put})
+		list = append(list, faultOf[awningArgs]{argument, impl.ErrRange, put})
 	}
 	// The numbers that would come back into their ranges if they were made narrow are outside as well.
 	for _, n := range []int64{-1, 256, 257, 512, math.MinInt64, math.MaxInt64, 1<<16 + 12, 1<<32 + 12, -1<<32 + 12} {
@@ -147,8 +111,8 @@ func outsideOfAwnings() []awningFault {
 	return list
 }
 
-func tooManyAwnings() []awningFault {
-	return []awningFault{
+func tooManyAwnings() []faultOf[awningArgs] {
+	return []faultOf[awningArgs]{
 		{"list", impl.ErrLimit, func(a *awningArgs) { a.list = slices.Repeat([]impl.Awning{exampleAwning()}, 9) }},
 		{"list", impl.ErrLimit, func(a *awningArgs) { a.list = slices.Repeat([]impl.Awning{exampleAwning()}, 200000) }},
 		{"list", impl.ErrNotFound, func(a *awningArgs) { a.list = nil }},
@@ -156,59 +120,16 @@ func tooManyAwnings() []awningFault {
 	}
 }
 
-func codeOfAwningFault(call awningCall, fault awningFault) int64 {
-	if slices.Contains(strings.Fields(call.uses), fault.argument) {
-		return fault.code
-	}
-	return impl.OK
-}
-
-// worseOfAwnings returns the code that is told if there are both.
-func worseOfAwnings(a, b int64) int64 {
-	for _, code := range []int64{impl.ErrInvalid, impl.ErrRange, impl.ErrLimit, impl.ErrNotFound} {
-		if a == code || b == code {
-			return code
-		}
-	}
-	return impl.OK
-}
-
 // P1: each function returns for all arguments; an error comes in its order, and all else is a zero value then.
 func TestP1ErrorsOfAwnings(t *testing.T) {
 	faults := slices.Concat(invalidAwnings(), outsideOfAwnings(), tooManyAwnings())
-	for _, call := range awningCalls() {
-		if answer := callAnswerOf(call.run(goodAwningArgs())); answer.code != impl.OK || answer.isZero {
-			t.Errorf("%s: %v", call.name, answer)
-		}
-		for i, one := range faults {
-			for j, two := range faults {
-				if i != j && one.argument == two.argument || codeOfAwningFault(call, one) == impl.OK {
-					continue
-				}
-				args := goodAwningArgs()
-				one.put(&args)
-				two.put(&args)
-				want := worseOfAwnings(codeOfAwningFault(call, one), codeOfAwningFault(call, two))
-				if answer := callAnswerOf(call.run(args)); answer.code != want || !answer.isZero {
-					t.Fatalf("%s with %s %d and %s %d: %v, want %d", call.name, one.argument, i, two.argument, j, answer, want)
-				}
-			}
-		}
-	}
+	wantErrors(t, goodAwningArgs, awningCalls(), faults, impl.ErrInvalid, impl.ErrRange, impl.ErrLimit, impl.ErrNotFound)
 }
 
 // P1: a wrong argument that a function does not have changes nothing.
 func TestP1OtherArgumentsOfAwnings(t *testing.T) {
-	for _, fault := range slices.Concat(invalidAwnings(), outsideOfAwnings(), tooManyAwnings()) {
-		for _, call := range awningCalls() {
-			args := goodAwningArgs()
-			fault.put(&args)
-			want := codeOfAwningFault(call, fault)
-			if answer := callAnswerOf(call.run(args)); answer.code != want {
-				t.Errorf("%s with another %s: %v, want %d", call.name, fault.argument, answer, want)
-			}
-		}
-	}
+	faults := slices.Concat(invalidAwnings(), outsideOfAwnings(), tooManyAwnings())
+	wantOthersUnminded(t, goodAwningArgs, awningCalls(), faults)
 }
 
 // An awning of OutFor has to be valid in its Out as well, and ErrNotFound comes behind all other errors.

@@ -3,7 +3,6 @@ package tests
 import (
 	"math"
 	"slices"
-	"strings"
 	"testing"
 
 	"loop.example/g01367/impl"
@@ -30,14 +29,8 @@ func goodControlArgs() controlArgs {
 	}
 }
 
-type controlCall struct {
-	name string
-	uses string // the arguments that it has, each by a word
-	run  func(a controlArgs) []any
-}
-
-func controlCalls() []controlCall {
-	return []controlCall{
+func controlCalls() []callOf[controlArgs] {
+	return []callOf[controlArgs]{
 		{"InsideAt", "control blind state tick", func(a controlArgs) []any {
 			return both(impl.InsideAt(a.control, a.blind, a.state, a.tick))
 		}},
@@ -69,17 +62,10 @@ func controlCalls() []controlCall {
 	}
 }
 
-// controlFault is an argument that is wrong, and the code that it gives.
-type controlFault struct {
-	argument string
-	code     int64
-	put      func(a *controlArgs)
-}
-
-func invalidInControls() []controlFault {
-	var list []controlFault
+func invalidInControls() []faultOf[controlArgs] {
+	var list []faultOf[controlArgs]
 	add := func(argument string, put func(a *controlArgs)) {
-		list = append(list, controlFault{argument, impl.ErrInvalid, put})
+		list = append(list, faultOf[controlArgs]{argument, impl.ErrInvalid, put})
 	}
 	for _, bad := range badControls() {
 		add("control", func(a *controlArgs) { a.control = bad })
@@ -110,10 +96,10 @@ func invalidInControls() []controlFault {
 	return list
 }
 
-func outsideOfControls() []controlFault {
-	var list []controlFault
+func outsideOfControls() []faultOf[controlArgs] {
+	var list []faultOf[controlArgs]
 	add := func(argument string, put func(a *controlArgs)) {
-		list = append(list, controlFault{argument, impl.ErrRange, put})
+		list = append(list, faultOf[controlArgs]{argument, impl.ErrRange, put})
 	}
 	// The numbers that would come back into their ranges if they were made narrow are outside as well.
 	for _, n := range []int64{0, 65, -1, -32, 256 + 32, math.MinInt64, math.MaxInt64, 1<<16 + 12, 1<<32 + 12, -1<<32 + 12} {
@@ -129,9 +115,9 @@ func outsideOfControls() []controlFault {
 	return list
 }
 
-func tooManyInControls() []controlFault {
+func tooManyInControls() []faultOf[controlArgs] {
 	ticks, blinds := slices.Repeat([]impl.Tick{{Height: 1}}, 300000), slices.Repeat([]impl.Blind{tenSlats()}, 9)
-	return []controlFault{
+	return []faultOf[controlArgs]{
 		{"ticks", impl.ErrLimit, func(a *controlArgs) { a.ticks = ticks[:101] }},
 		{"ticks", impl.ErrLimit, func(a *controlArgs) { a.ticks = ticks }},
 		{"blinds", impl.ErrLimit, func(a *controlArgs) { a.blinds = nil }},
@@ -141,50 +127,17 @@ func tooManyInControls() []controlFault {
 	}
 }
 
-func codeOfControlFault(call controlCall, fault controlFault) int64 {
-	if slices.Contains(strings.Fields(call.uses), fault.argument) {
-		return fault.code
-	}
-	return impl.OK
-}
-
 // P1: each function returns for all arguments; an error comes in its order (ErrInvalid, ErrLimit, ErrRange), and all
 // else is a zero value then.
 func TestP1ErrorsOfControls(t *testing.T) {
 	faults := slices.Concat(invalidInControls(), outsideOfControls(), tooManyInControls())
-	for _, call := range controlCalls() {
-		if answer := callAnswerOf(call.run(goodControlArgs())); answer.code != impl.OK || answer.isZero {
-			t.Errorf("%s: %v", call.name, answer)
-		}
-		for i, one := range faults {
-			for j, two := range faults {
-				if i != j && one.argument == two.argument || codeOfControlFault(call, one) == impl.OK || codeOfControlFault(call, two) == impl.OK {
-					continue
-				}
-				args := goodControlArgs()
-				one.put(&args)
-				two.put(&args)
-				want := worse(codeOfControlFault(call, one), codeOfControlFault(call, two))
-				if answer := callAnswerOf(call.run(args)); answer.code != want || !answer.isZero {
-					t.Fatalf("%s with %s %d and %s %d: %v, want %d", call.name, one.argument, i, two.argument, j, answer, want)
-				}
-			}
-		}
-	}
+	wantErrors(t, goodControlArgs, controlCalls(), faults, impl.ErrInvalid, impl.ErrLimit, impl.ErrRange)
 }
 
 // P1: a wrong argument that a function does not have changes nothing.
 func TestP1OtherArgumentsOfControls(t *testing.T) {
-	for _, fault := range slices.Concat(invalidInControls(), outsideOfControls(), tooManyInControls()) {
-		for _, call := range controlCalls() {
-			args := goodControlArgs()
-			fault.put(&args)
-			want := codeOfControlFault(call, fault)
-			if answer := callAnswerOf(call.run(args)); answer.code != want {
-				t.Errorf("%s with another %s: %v, want %d", call.name, fault.argument, answer, want)
-			}
-		}
-	}
+	faults := slices.Concat(invalidInControls(), outsideOfControls(), tooManyInControls())
+	wantOthersUnminded(t, goodControlArgs, controlCalls(), faults)
 }
 
 // P1: ErrNotFound of a state that is never steady comes behind all other errors.

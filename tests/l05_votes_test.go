@@ -60,10 +60,10 @@ func TestMedianVote(t *testing.T) {
 	}
 }
 
-// eachOrder tries all orders of numbers.
-func eachOrder(list []float32, try func(order []float32)) {
-	var put func(order, left []float32)
-	put = func(order, left []float32) {
+// eachOrder tries all orders of a list, as they come by its indices.
+func eachOrder[T any](list []T, try func(order []T)) {
+	var put func(order, left []T)
+	put = func(order, left []T) {
 		if len(left) == 0 {
 			try(order)
 			return
